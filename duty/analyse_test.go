@@ -292,6 +292,7 @@ func TestP3_6Fuel(t *testing.T) {
 		{fuelled(six...), api.OK},
 		{fuelled(append(six, "set x = 1")...), api.ErrFuel},
 		{fuelled(append(six, "out x")...), api.ErrFuel},
+		{fuelled(append([]string{"out x"}, six...)...), api.ErrFuel},
 		{fuelled(append(six, "repeat 0", "end")...), api.ErrFuel},
 		{fuelled(append(six, "if 1 < 2", "end")...), api.ErrFuel},
 		{both, api.OK},

@@ -102,6 +102,7 @@ func TestP3_3Fuel(t *testing.T) {
 		{fuelled(six...), []int{3}, api.OK},
 		{fuelled(append(six, "set x = 1")...), nil, api.ErrFuel},
 		{fuelled(append(six, "out x")...), nil, api.ErrFuel},
+		{fuelled(append([]string{"out x"}, six...)...), nil, api.ErrFuel},
 		{fuelled(append(six, "repeat 0", "end")...), nil, api.ErrFuel},
 		{fuelled(append(six, "if 1 < 2", "end")...), nil, api.ErrFuel},
 		{fuelled(append(six, "set x = 1 / 0")...), nil, api.ErrFuel},
